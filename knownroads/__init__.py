@@ -1,0 +1,1 @@
+"""Roads that all know: routers that tell one another which roads they have."""
