@@ -14,6 +14,13 @@ class Told:
         self.number = number
         self.roads = roads
 
+    def cost_to(self, name):
+        """What its road to this router costs, or 0 where it has none."""
+        for to, cost in self.roads:
+            if to == name:
+                return cost
+        return 0
+
 
 def is_router(name):
     return 0 <= name < ROUTERS

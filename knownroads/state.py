@@ -5,6 +5,7 @@ it is found before anything is changed.
 """
 
 from knownroads.message import Told, is_router, message_of, read_message
+from knownroads.ways import least_costs_to, road_cost
 
 LINES = 8
 MOST_COST = 65535
@@ -61,11 +62,40 @@ class Router:
         if not self.waits[p]:
             return [-1]
         name = min(self.waits[p])
-        octets = message_of(self.known[name])
-        if len(octets) > most:
-            return [-5]
-        self.wait_no_more(p, name)
-        return [len(octets)] + octets
+        answer = answer_that_tells(self.known[name], most)
+        if answer != [-5]:
+            self.wait_no_more(p, name)
+        return answer
+
+    def look(self, x, most):
+        if not is_router(x) or most > MOST_BYTES:
+            return [-2]
+        if x not in self.known:
+            return [-1]
+        return answer_that_tells(self.known[x], most)
+
+    def least_cost(self, d):
+        if not is_router(d):
+            return [-2]
+        return [least_costs_to(self.known, d).get(self.me, -1)]
+
+    def lines_on(self, d):
+        if not is_router(d):
+            return [-2]
+        least = least_costs_to(self.known, d)
+        together = 0
+        for p in range(LINES):
+            if self.leads_on(p, least):
+                together += 1 << p
+        return [together]
+
+    def leads_on(self, p, least):
+        """Whether a way at the least cost begins with line p; least: the least cost from each router."""
+        nb, cost = self.lines[p]
+        if not self.is_up(p) or nb not in least or road_cost(self.known, self.me, nb) == 0:
+            return False
+        # The line's own cost: the road's is that of the cheapest line to the same neighbour.
+        return cost + least[nb] == least[self.me]
 
     def hear_of_another(self, p, told):
         known = self.known.get(told.name)
@@ -123,6 +153,14 @@ class Router:
 
 def is_line(p):
     return 0 <= p < LINES
+
+
+def answer_that_tells(told, most):
+    """How many bytes the message has that tells this, then these; refused where it has more than most."""
+    octets = message_of(told)
+    if len(octets) > most:
+        return [-5]
+    return [len(octets)] + octets
 
 
 def roads_by(lines):

@@ -23,6 +23,18 @@ def following(p, most=MOST_BYTES):
     return [3, p, most]
 
 
+def look(x, most=MOST_BYTES):
+    return [4, x, most]
+
+
+def far(d):
+    return [5, d]
+
+
+def ways(d):
+    return [6, d]
+
+
 def message(name, number, *roads):
     """The bytes that tell of `name`, with roads as (router, cost), well formed or not."""
     octets = [name, len(roads)] + list(number.to_bytes(4, "big"))

@@ -4,7 +4,7 @@ import unittest
 
 from knownroads.router import answers
 
-# ro_begin 5, ro_line 0 to 9 at 4, ro_hear on 0, ro_next on 0, and a refusal of each.
+# ro_begin 5, ro_line 0 to 9 at 4, ro_hear on 0, ro_next on 0, the rest for 9, and a refusal of each.
 CALLS = [
     0, 5,
     0, 64,
@@ -19,6 +19,12 @@ CALLS = [
     2, 0, 6, 9, 0, 0, 0, 0, 6,
     3, 0, 8,
     3, 0, 9,
+    4, 9, 9,
+    4, 9, 8,
+    5, 9,
+    5, 64,
+    6, 9,
+    6, -1,
 ]
 ANSWERS = [
     1, 0,
@@ -34,6 +40,12 @@ ANSWERS = [
     1, 0,
     1, -5,
     10, 9, 9, 1, 0, 0, 0, 7, 5, 0, 4,
+    10, 9, 9, 1, 0, 0, 0, 7, 5, 0, 4,
+    1, -5,
+    1, 4,
+    1, -2,
+    1, 1,
+    1, -2,
 ]
 
 
